@@ -1,0 +1,1 @@
+"""Gliders over one meadow, let down ring by ring."""
