@@ -31,6 +31,10 @@ def last_of(sky, landings):
 def cost_of(sky, landings):
     """What landings that keep the sky cost together."""
     check_keeps(sky, landings)
+    return cost_together(sky, landings)
+
+
+def cost_together(sky, landings):
     return sum([glider_cost(sky[2][glider], minute) for glider, minute in landings])
 
 
@@ -151,11 +155,16 @@ def first_crowded(sky, landings):
 
 def first_too_high(sky, landings):
     for place, landing in enumerate(landings):
-        kind, joins, first, last, due, weight, ring = sky[2][landing[0]]
-        # It only ever comes down, so the ring that it needs when it joins is the highest one.
-        if ring > 0 and waits_at(sky, landing, joins) and ring_needed(sky, landings, place, joins) > ring:
+        if is_too_high(sky, landings, place):
             return landing[0]
     return None
+
+
+def is_too_high(sky, landings, place):
+    """Whether the glider landing at this place needs a higher ring than it may hold."""
+    kind, joins, first, last, due, weight, ring = sky[2][landings[place][0]]
+    # It only ever comes down, so the ring that it needs when it joins is the highest one.
+    return ring > 0 and waits_at(sky, landings[place], joins) and ring_needed(sky, landings, place, joins) > ring
 
 
 def ring_needed(sky, landings, place, minute):

@@ -1,4 +1,4 @@
-"""The plain shapes that are asked for everywhere: whole numbers, minutes, tuples of some length."""
+"""The plain shapes that are asked for everywhere: whole numbers, minutes, tuples of some length, numbers of gliders."""
 
 LAST_MINUTE = 9999
 
@@ -18,3 +18,27 @@ def is_minute(thing):
 
 def is_tuple(thing, least, most):
     return isinstance(thing, tuple) and least <= len(thing) <= most
+
+
+def are_unlike(thing, many):
+    """Whether it is a tuple of unlike numbers of so many gliders, perhaps of none."""
+    if not is_tuple(thing, 0, many) or not all([is_within(number, 0, many - 1) for number in thing]):
+        return False
+    return all([thing.count(number) == 1 for number in thing])
+
+
+def are_rising(thing, many):
+    """Whether it is a rising tuple of numbers of so many gliders, perhaps of none."""
+    return are_unlike(thing, many) and list(thing) == sorted(thing)
+
+
+def without(numbers, number):
+    return tuple([other for other in numbers if other != number])
+
+
+def lots_of(numbers):
+    """All rising tuples of these rising numbers, that of none first, each behind those that are within it."""
+    lots = [()]
+    for number in numbers:
+        lots = lots + [lot + (number,) for lot in lots]
+    return lots

@@ -2,7 +2,7 @@
 
 from downrings.errors import NoSky
 from downrings.meadows import is_kind, is_meadow
-from downrings.shapes import is_minute, is_tuple, is_within
+from downrings.shapes import are_unlike, is_minute, is_tuple, is_within
 
 MOST_GLIDERS = 7
 MOST_WEIGHT = 99
@@ -39,13 +39,14 @@ def is_glider(meadow, thing):
 
 
 def are_fixed(gliders, thing):
-    if not is_tuple(thing, 0, len(gliders)):
-        return False
-    if not all([is_within(number, 0, len(gliders) - 1) for number in thing]):
-        return False
-    if any([thing.count(number) > 1 for number in thing]):
+    if not are_unlike(thing, len(gliders)):
         return False
     return all([glider[6] == 0 or number in thing for number, glider in enumerate(gliders)])
+
+
+def free_ones(sky):
+    """The numbers of the gliders that aren't fixed, rising."""
+    return tuple([number for number in range(len(sky[2])) if number not in sky[3]])
 
 
 def check_sky(thing):

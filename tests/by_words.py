@@ -1,4 +1,6 @@
-"""Points 6 and 7 told minute by minute, straight from their words: slow, and apart from the program."""
+"""Points 6, 7 and 9 to 15 straight from their words, minute by minute: slow, and apart from the program."""
+
+import itertools
 
 
 def waiting(sky, landings, minute):
@@ -83,3 +85,197 @@ def keeps_by_words(sky, landings):
         if any(0 < gliders[g][6] < needs(sky, landings, g, minute) for g in there):
             return False
     return True
+
+
+# Point 9: one order.
+
+def lands_at(sky, before, g):
+    """The soonest minute of g behind the landing before, each minute from its first one on tried."""
+    (rings, sink, gaps, shuts), ahead, gliders, fixed = sky
+    minute = gliders[g][2]
+    while any(begin <= minute < end for begin, end in shuts) or (
+            before is not None and minute < before[1] + gaps[before[0]][gliders[g][0]]):
+        minute += 1
+    return minute
+
+
+def leaves_too_late(sky, place, minute):
+    (rings, sink, gaps, shuts), ahead, gliders, fixed = sky
+    joins = sorted(glider[1] for glider in gliders)
+    return rings + place < len(joins) and minute - sink > joins[rings + place]
+
+
+def causes_of(sky, landings):
+    """Why the last one of these landings is stuck: all the causes that hold, as a list of words."""
+    g, minute = landings[-1]
+    kind, joins, first, last, due, weight, ring = sky[2][g]
+    causes = []
+    if minute > last:
+        causes.append("last")
+    if leaves_too_late(sky, len(landings) - 1, minute):
+        causes.append("leaving")
+    if ring != 0 and needs(sky, landings, g, joins) > ring:
+        causes.append("ring")
+    return causes
+
+
+def soonest_by_words(sky, order):
+    """The soonest landings of these ahead of the first one that is stuck, and its causes, none where all land."""
+    landings, before = [], sky[1]
+    for g in order:
+        before = (sky[2][g][0], lands_at(sky, before, g))
+        landings.append((g, before[1]))
+        causes = causes_of(sky, landings)
+        if causes:
+            return landings[:-1], causes
+    return landings, []
+
+
+# Point 10: all orders.
+
+def all_orders(sky):
+    """All orders of a sky, the first as tuples compare first."""
+    free = [g for g in range(len(sky[2])) if g not in sky[3]]
+    return [sky[3] + behind for behind in itertools.permutations(free)]
+
+
+def last_by_words(sky, landings):
+    return max([minute for g, minute in landings], default=0)
+
+
+def cost_by_words(sky, landings):
+    return sum(sky[2][g][5] * (minute - sky[2][g][4]) for g, minute in landings if minute > sky[2][g][4])
+
+
+def best_by_words(sky, number_of):
+    best = None
+    for order in all_orders(sky):
+        landings, causes = soonest_by_words(sky, order)
+        if not causes and (best is None or number_of(sky, landings) < best[1]):
+            best = ("order", number_of(sky, landings), order)
+    return best
+
+
+def lands_by_words(sky):
+    return any(not soonest_by_words(sky, order)[1] for order in all_orders(sky))
+
+
+def all_landings(sky):
+    """All landings that keep a sky, each minute of each glider gone through: for small skies only."""
+    found = []
+    for order in all_orders(sky):
+        for minutes in itertools.product(*(range(sky[2][g][2], sky[2][g][3] + 1) for g in order)):
+            landings = list(zip(order, minutes))
+            if all(a < b for a, b in zip(minutes, minutes[1:])) and keeps_by_words(sky, landings):
+                found.append(landings)
+    return found
+
+
+# Points 11 and 12: tables.
+
+def whole(thing):
+    return isinstance(thing, int) and thing is not True and thing is not False
+
+
+def is_table_by_words(sky, thing):
+    if not isinstance(thing, tuple):
+        return False
+    free = [g for g in range(len(sky[2])) if g not in sky[3]]
+    for row in thing:
+        if not isinstance(row, tuple) or len(row) != 3:
+            return False
+        lot, last, corners = row
+        if not isinstance(lot, tuple) or not lot or not all(whole(g) and g in free for g in lot):
+            return False
+        if any(a >= b for a, b in zip(lot, lot[1:])) or not whole(last) or last not in lot:
+            return False
+        if not isinstance(corners, tuple):
+            return False
+        for corner in corners:
+            if not isinstance(corner, tuple) or len(corner) != 2 or not all(map(whole, corner)) or corner[1] < 0:
+                return False
+    return True
+
+
+def start_by_words(sky):
+    """The landing ahead of the free ones (None where there is none), the minute and the cost; None for no start."""
+    landings, causes = soonest_by_words(sky, sky[3])
+    if causes:
+        return None
+    ahead = (sky[2][landings[-1][0]][0], landings[-1][1]) if landings else sky[1]
+    return ahead, last_by_words(sky, landings), cost_by_words(sky, landings)
+
+
+def reach(sky, before, cost, g, place):
+    minute = lands_at(sky, before, g)
+    if minute > sky[2][g][3] or leaves_too_late(sky, place, minute):
+        return None
+    return minute, cost + cost_by_words(sky, [(g, minute)])
+
+
+def is_right_by_words(sky, ahead, row):
+    """Whether a row is right behind the rows ahead."""
+    lot, last, corners = row
+    if any(other[:2] == (lot, last) for other in ahead):
+        return False
+    place = len(sky[3]) + len(lot) - 1
+    reached = []
+    if len(lot) == 1:
+        start = start_by_words(sky)
+        if start is not None:
+            reached.append(reach(sky, start[0], start[2], last, place))
+    sooner = tuple(g for g in lot if g != last)
+    for h in sooner:
+        rows = [other for other in ahead if other[:2] == (sooner, h)]
+        if not rows:
+            return False
+        for minute, cost in rows[0][2]:
+            reached.append(reach(sky, (sky[2][h][0], minute), cost, last, place))
+    for point in reached:
+        if point is not None and not any(minute <= point[0] and cost <= point[1] for minute, cost in corners):
+            return False
+    return True
+
+
+def shows_by_words(sky, thing):
+    if not is_table_by_words(sky, thing):
+        return None
+    if not all(is_right_by_words(sky, thing[:at], row) for at, row in enumerate(thing)):
+        return None
+    free = tuple(g for g in range(len(sky[2])) if g not in sky[3])
+    if not free:
+        start = start_by_words(sky)
+        return ("none",) if start is None else ("least", start[1], start[2])
+    corners = []
+    for last in free:
+        rows = [row for row in thing if row[:2] == (free, last)]
+        if not rows:
+            return None
+        corners += rows[0][2]
+    if not corners:
+        return ("none",)
+    return ("least", min(minute for minute, cost in corners), min(cost for minute, cost in corners))
+
+
+# Points 13 to 15: lots.
+
+def narrowed_by_words(sky, lot):
+    meadow, ahead, gliders, fixed = sky
+    anew = {g: at for at, g in enumerate(lot)}
+    return (meadow, ahead, tuple(gliders[g] for g in lot), tuple(anew[g] for g in fixed if g in anew))
+
+
+def lots_by_words(sky):
+    """All lots, shorter ones first, those of one length rising."""
+    return [lot for many in range(len(sky[2]) + 1) for lot in itertools.combinations(range(len(sky[2])), many)]
+
+
+def least_by_words(lots):
+    """Those of the lots in which no other one of them is."""
+    return [lot for lot in lots if not any(set(other) < set(lot) for other in lots)]
+
+
+def later_by_words(sky, minutes):
+    """The sky in which each last minute is so many minutes later, be it behind 9999."""
+    later = tuple(glider[:3] + (glider[3] + minutes,) + glider[4:] for glider in sky[2])
+    return (sky[0], sky[1], later, sky[3])

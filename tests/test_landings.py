@@ -8,6 +8,7 @@ from downrings.errors import NoLandings
 from downrings.landings import amiss, cost_of, keeps, last_of
 from downrings.skies import is_sky
 from tests.by_words import amiss_by_words, keeps_by_words
+from tests.chance import a_sky
 from tests.samples import ANYTHING, BIG, make_glider, make_meadow, make_sky
 
 # Two kinds; ahead of all a landing of kind 1 at minute 4; glider 2 lands first, then glider 0.
@@ -249,23 +250,6 @@ class KeepsTest(unittest.TestCase):
 class ByWordsTest(unittest.TestCase):
     """Many small skies, against the points' words taken minute by minute."""
 
-    def a_glider(self, chance, meadow):
-        joins = chance.randint(0, 8)
-        first = joins + meadow[1] + chance.choice((0, 0, 1, 4))
-        last = first + chance.choice((0, 8, 20, 30, 30))
-        ring = chance.choice((0, 0, min(1, meadow[0]), chance.randint(0, meadow[0])))
-        return (chance.randrange(2), joins, first, last, chance.randint(0, 20), chance.randint(0, 3), ring)
-
-    def a_sky(self, chance):
-        gaps = chance.choice((((1, 2), (1, 1)), ((2, 3), (3, 2)), ((3, 1), (2, 3)), ((1, 1), (1, 1))))
-        shuts = chance.choice(((), (), ((3, 6),), ((0, 2), (9, 12)), ((5, 6), (7, 8), (14, 16))))
-        meadow = (chance.choice((0, 1, 2, 3, 3, 4)), chance.choice((0, 0, 1, 3)), gaps, shuts)
-        gliders = tuple(self.a_glider(chance, meadow) for g in range(chance.randint(0, 4)))
-        fixed = [g for g, glider in enumerate(gliders) if glider[6] or chance.random() < 0.2]
-        chance.shuffle(fixed)
-        ahead = chance.choice((None, None, (chance.randrange(2), chance.randint(0, 6))))
-        return (meadow, ahead, gliders, tuple(fixed))
-
     def some_landings(self, chance, sky):
         """Nearly right ones: in an order, each some minutes behind the soonest, now and then spoilt."""
         (rings, sink, gaps, shuts), ahead, gliders, fixed = sky
@@ -294,7 +278,7 @@ class ByWordsTest(unittest.TestCase):
         chance = random.Random(20)
         seen = collections.Counter()
         for turn in range(12000):
-            sky = self.a_sky(chance)
+            sky = a_sky(chance)
             self.assertTrue(is_sky(sky), sky)
             landings = self.some_landings(chance, sky)
             told = amiss(sky, landings)

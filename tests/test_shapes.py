@@ -1,6 +1,6 @@
 import unittest
 
-from downrings.shapes import is_minute, is_tuple, is_whole, is_within
+from downrings.shapes import are_rising, are_unlike, is_minute, is_tuple, is_whole, is_within, lots_of, without
 from tests.samples import BIG, ODD
 
 
@@ -23,6 +23,32 @@ class ShapesTest(unittest.TestCase):
     def test_tuple(self):
         for thing, told in (((), False), ((1,), True), ((1, 2), True), ((1, 2, 3), False), ([1], False), ("a", False)):
             self.assertIs(is_tuple(thing, 1, 2), told)
+
+    def test_unlike_and_rising_numbers(self):
+        for thing, unlike, rising in (
+            ((), True, True), ((0,), True, True), ((2,), True, True), ((0, 2), True, True), ((2, 0), True, False),
+            ((0, 1, 2), True, True), ((1, 0, 2), True, False), ((0, 0), False, False), ((1, 1, 2), False, False),
+            ((3,), False, False), ((-1,), False, False), ((0, 1, 2, 3), False, False), ((True,), False, False),
+            ((0, True), False, False), ((None,), False, False), (((0,),), False, False), ([0], False, False),
+        ):
+            self.assertIs(are_unlike(thing, 3), unlike, thing)
+            self.assertIs(are_rising(thing, 3), rising, thing)
+        for thing in ODD:
+            self.assertIs(are_unlike(thing, 3), False)
+            self.assertIs(are_rising(thing, 3), False)
+
+    def test_without(self):
+        self.assertEqual(without((3, 1, 2), 1), (3, 2))
+        self.assertEqual(without((1,), 1), ())
+
+    def test_lots(self):
+        self.assertEqual(lots_of(()), [()])
+        self.assertEqual(sorted(lots_of((1, 4, 6))), [(), (1,), (1, 4), (1, 4, 6), (1, 6), (4,), (4, 6), (6,)])
+        lots = lots_of(range(7))
+        self.assertEqual(len(set(lots)), 128)
+        for at, lot in enumerate(lots):
+            self.assertEqual(list(lot), sorted(lot))
+            self.assertFalse(any(set(later) < set(lot) for later in lots[at:]))
 
 
 if __name__ == "__main__":
