@@ -62,6 +62,10 @@ def first_not_shut(meadow, minute):
 
 def open_from(meadow, minute):
     """The first minute from this whole number on, of whatever size, at which the meadow isn't shut."""
-    if not is_meadow(meadow):
-        raise NoMeadow("this is no meadow")
+    check_meadow(meadow)
     return first_not_shut(meadow, minute)
+
+
+def check_meadow(thing):
+    if not is_meadow(thing):
+        raise NoMeadow("this is no meadow")

@@ -1,6 +1,8 @@
 """The plain shapes that are asked for everywhere: whole numbers, minutes, tuples of some length, numbers of gliders."""
 
 LAST_MINUTE = 9999
+FIGURES = "0123456789"
+MOST_FIGURES = 40
 
 
 def is_whole(thing):
@@ -42,3 +44,12 @@ def lots_of(numbers):
     for number in numbers:
         lots = lots + [lot + (number,) for lot in lots]
     return lots
+
+
+def number_in(word):
+    """The whole number that is written by this word, or None."""
+    if not 1 <= len(word) <= MOST_FIGURES or not all([sign in FIGURES for sign in word]):
+        return None
+    if word[0] == "0" and word != "0":
+        return None
+    return int(word)

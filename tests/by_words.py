@@ -1,6 +1,7 @@
-"""Points 6, 7 and 9 to 15 straight from their words, minute by minute: slow, and apart from the program."""
+"""Points 6, 7 and 9 to 16 straight from their words, minute by minute: slow, and apart from the program."""
 
 import itertools
+import math
 
 
 def waiting(sky, landings, minute):
@@ -279,3 +280,70 @@ def later_by_words(sky, minutes):
     """The sky in which each last minute is so many minutes later, be it behind 9999."""
     later = tuple(glider[:3] + (glider[3] + minutes,) + glider[4:] for glider in sky[2])
     return (sky[0], sky[1], later, sky[3])
+
+
+# Point 16: holdings.
+
+def waits_by_words(sky, landings, g):
+    """The minutes at which g waits, rising."""
+    return [minute for minute in horizon(landings) if g in waiting(sky, landings, minute)]
+
+
+def rings_of(steps, minutes):
+    """The ring at each of these minutes by tuples (minute, ring), None ahead of the first one."""
+    return {minute: ([None] + [ring for when, ring in steps if when <= minute])[-1] for minute in minutes}
+
+
+def is_holding_by_words(sky, landings, thing):
+    (rings, sink, gaps, shuts), ahead, gliders, fixed = sky
+    if not isinstance(thing, list) or len(thing) != len(gliders):
+        return False
+    for g, steps in enumerate(thing):
+        if not isinstance(steps, list):
+            return False
+        for step in steps:
+            if not isinstance(step, tuple) or len(step) != 2 or not all(map(whole, step)):
+                return False
+        there = waits_by_words(sky, landings, g)
+        if not there and steps or there and (not steps or steps[0][0] != there[0]):
+            return False
+        if any(a[0] >= b[0] or a[1] <= b[1] for a, b in zip(steps, steps[1:])):
+            return False
+        for minute, ring in steps:
+            if minute >= dict(landings)[g] - sink or ring < 1 or ring > rings or 0 < gliders[g][6] < ring:
+                return False
+        if there and rings_of(steps, there)[there[-1]] != 1:
+            return False
+    order = [g for g, lands in landings]
+    for minute in horizon(landings):
+        there = [rings_of(thing[g], [minute])[minute] for g in order if g in waiting(sky, landings, minute)]
+        if any(a >= b for a, b in zip(there, there[1:])):
+            return False
+    return True
+
+
+def all_steps(minutes, joins, leaves, most):
+    """All lists of tuples (minute, ring) from joining on, the rings falling to 1, with steps at these minutes only."""
+    if joins >= leaves:
+        return [[]]
+    found = []
+    for many in range(1, most + 1):
+        for rings in itertools.combinations(range(2, most + 1), many - 1):
+            for when in itertools.combinations([m for m in minutes if joins < m < leaves], many - 1):
+                found.append(list(zip((joins,) + when, rings[::-1] + (1,))))
+    return found
+
+
+def ways_down(sky, landings):
+    """For each glider all its ways down the rings, each by itself."""
+    minutes, lands = list(horizon(landings)), dict(landings)
+    return [all_steps(minutes, glider[1], lands[g] - sky[0][1], glider[6] or sky[0][0])
+            for g, glider in enumerate(sky[2])]
+
+
+def all_holdings(sky, landings, most):
+    """All right holdings, the ways of all gliders gone through together; None where these are more than so many."""
+    ways = ways_down(sky, landings)
+    if math.prod(len(way) for way in ways) > most:
+        return None
+    return [list(holding) for holding in itertools.product(*ways) if is_holding_by_words(sky, landings, list(holding))]

@@ -1,4 +1,4 @@
-"""Skies drawn by a chance that is handed in, and so the same ones at each run."""
+"""Skies, landings and deeds drawn by a chance that is handed in, and so the same ones at each run."""
 
 
 def a_glider(chance, meadow):
@@ -45,3 +45,55 @@ def an_order(chance, sky):
     free = [g for g in range(len(sky[2])) if g not in sky[3]]
     chance.shuffle(free)
     return sky[3] + tuple(free)
+
+
+def later_landings(chance, sky, order):
+    """Landings in an order, some of them later than the soonest; they may keep the sky or not."""
+    (rings, sink, gaps, shuts), ahead, gliders, fixed = sky
+    told, before = [], ahead
+    for g in order:
+        minute = gliders[g][2] + chance.choice((0, 0, 0, 1, 3, 6))
+        if before is not None:
+            minute = max(minute, before[1] + gaps[before[0]][gliders[g][0]])
+        minute += chance.choice((0, 0, 0, 1, 2, 5))
+        for begin, end in shuts:
+            minute = end if begin <= minute < end else minute
+        before = (gliders[g][0], minute)
+        told.append((g, minute))
+    return told
+
+
+def a_tower_meadow(chance):
+    gaps = chance.choice((((3,),), ((1, 3), (2, 1)), ((2, 4), (3, 2)), ((5, 4), (3, 4))))
+    shuts = chance.choice(((), ((3, 6),), ((0, 2), (9, 12)), ((5, 6), (8, 9), (11, 12), (20, 25))))
+    return (chance.choice((0, 1, 2, 3, 4, 8, 8)), chance.choice((0, 1, 2, 5)), gaps, shuts)
+
+
+def a_comer(chance, words, letters):
+    """A row for one that comes to a tower told by its words: mostly one that can."""
+    joins = words.minute + chance.choice((0, 0, 0, 1, 2, 4, 8, 15, -1))
+    last = joins + words.sink() + chance.choice((0, 3, 10, 20, 40, 40, 60, 60, -1))
+    due, weight = max(0, joins + chance.randrange(20)), chance.randrange(6)
+    return ("comes", chance.choice(letters), chance.randrange(len(words.meadow[2])), joins, last, due, weight)
+
+
+def a_deed(chance, words, letters):
+    """A deed for a tower told by its words, as a tuple of its name and its arguments: mostly one that is done."""
+    now, names = words.minute, sorted(words.gliders)
+    sort = chance.randrange(24)
+    if sort < 10:
+        return a_comer(chance, words, letters)
+    if sort < 11:
+        return ("away", chance.choice(names + [letters[0]]))
+    if sort < 13:
+        return ("later", chance.choice(names + [letters[0]]), now + chance.randrange(50))
+    if sort < 15:
+        begin = now + chance.randint(-1, 20)
+        return ("shut", begin, begin + chance.randint(0, 6))
+    if sort < 16:
+        return ("opened",) + chance.choice(words.shuts + [(now, now + 1)])
+    if sort < 17:
+        return ("aim", chance.choice(("last", "cost", "cost", "none")))
+    if sort < 22:
+        return ("until", now + chance.choice((0, 1, 1, 1, 1, 2, 3, 7, -1)))
+    return ("undo",)

@@ -143,6 +143,41 @@ class LanguageTest(unittest.TestCase):
         for path, tree, node in self.nodes(ast.Raise):
             self.assertTrue(node.exc is None or isinstance(node.exc, ast.Call) and isinstance(node.exc.func, ast.Name))
 
+    def test_no_name_is_a_method_and_an_attribute(self):
+        methods, attributes = set(), set()
+        for path, tree, node in self.nodes(ast.ClassDef):
+            methods |= {part.name for part in node.body if isinstance(part, ast.FunctionDef)}
+        for path, tree, node in self.nodes(ast.Attribute):
+            if isinstance(node.ctx, ast.Store):
+                attributes.add(node.attr)
+        self.assertEqual(methods & attributes, set())
+        builtin = {name for value in ("", 0, [], {}, set(), b"", ()) for name in dir(value)}
+        self.assertEqual((methods | attributes) & builtin, {"__init__"})
+        for path, tree, node in self.nodes(ast.Attribute):
+            self.assertIn(node.attr, methods | attributes | set(METHODS))
+
+    def test_no_two_files_import_from_each_other(self):
+        imports = {path.stem: set() for path in FILES}
+        for path, tree, node in self.nodes(ast.ImportFrom):
+            imports[path.stem].add(node.module.partition(".")[2])
+        while imports:
+            ends = [name for name in imports if not imports[name] & set(imports)]
+            self.assertTrue(ends, imports)
+            imports = {name: imports[name] for name in imports if name not in ends}
+
+    def test_tables_at_module_level_are_only_read(self):
+        for path, text, tree in self.each():
+            tables = [node.targets[0].id for node in tree.body
+                      if isinstance(node, ast.Assign) and isinstance(node.value, (ast.Dict, ast.List))]
+            for node in ast.walk(tree):
+                if isinstance(node, (ast.Dict, ast.List)) and any(isinstance(part, (ast.Dict, ast.List))
+                                                                  for part in ast.iter_child_nodes(node)):
+                    self.assertNotIn(node, [part.value for part in tree.body if isinstance(part, ast.Assign)])
+                if isinstance(node, ast.Subscript) and isinstance(node.value, ast.Name) and node.value.id in tables:
+                    self.assertIsInstance(node.ctx, ast.Load)
+                if isinstance(node, ast.Attribute) and isinstance(node.value, ast.Name):
+                    self.assertNotIn(node.value.id, tables)
+
 
 if __name__ == "__main__":
     unittest.main()

@@ -1,6 +1,6 @@
 import unittest
 
-from downrings.shapes import are_rising, are_unlike, is_minute, is_tuple, is_whole, is_within, lots_of, without
+from downrings.shapes import are_rising, are_unlike, is_minute, is_tuple, is_whole, is_within, lots_of, number_in, without
 from tests.samples import BIG, ODD
 
 
@@ -36,6 +36,13 @@ class ShapesTest(unittest.TestCase):
         for thing in ODD:
             self.assertIs(are_unlike(thing, 3), False)
             self.assertIs(are_rising(thing, 3), False)
+
+    def test_numbers_in_words(self):
+        for word, number in (("0", 0), ("1", 1), ("9", 9), ("10", 10), ("9999", 9999), ("9" * 40, BIG)):
+            self.assertEqual(number_in(word), number)
+        for word in ("", "00", "01", "-1", "+1", " 1", "1 ", "1\n", "1\t", "a", "1a", "1.0", "1_0", "9" * 41, "0" * 41,
+                     "9" * 5000, "\u0663", "\u00b2"):
+            self.assertIsNone(number_in(word), word)
 
     def test_without(self):
         self.assertEqual(without((3, 1, 2), 1), (3, 2))
