@@ -45,12 +45,11 @@ def steps_down(sky, landings, place):
 
 
 def minutes_of_steps(sky, landings, place):
-    """All minutes, rising, from which on the glider landing at this place may need a lower ring than ahead."""
+    """The minutes, as time goes by, from which on the glider landing at this place may need another ring."""
     joins = sky[2][landings[place][0]][1]
     # It needs less only from where one leaves that lands sooner.
     leavings = [minute - sky[0][1] for number, minute in landings[:place]]
-    minutes = [joins] + [minute for minute in leavings if minute > joins]
-    return [minute for minute in minutes if waits_at(sky, landings[place], minute)]
+    return [minute for minute in [joins] + leavings if waits_at(sky, landings[place], minute)]
 
 
 def are_steps(sky, landing, thing):

@@ -44,10 +44,10 @@ def sky_in(text):
     found = {word: [] for word in WORDS}
     for row in text.split("\n"):
         word, *figures = row.split(" ")
-        numbers = tuple([number_in(part) for part in figures])
-        if word not in found or None in numbers:
+        if word not in found:
             return None
-        found[word].append(numbers)
+        # Of what is no number this is None, which stands at no such place of a sky.
+        found[word].append(tuple([number_in(part) for part in figures]))
     meadow = first_row(found["meadow"], ()) + (tuple(found["gaps"]), tuple(found["shut"]))
     return (meadow, first_row(found["ahead"], None), tuple(found["glider"]), first_row(found["fixed"], ()))
 
